@@ -1,0 +1,1 @@
+"""Notes in series and their marks."""
