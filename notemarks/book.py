@@ -24,7 +24,7 @@ def answer_note(book, reader):
     """Take a note."""
     series = reader.take()
     calls = reader.take_row()
-    return [book.add_note(series, calls)]
+    return [book.add_new_note(series, calls)]
 
 
 def answer_item(book, reader):

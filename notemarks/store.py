@@ -48,7 +48,7 @@ class Book:
         self.series.append(Series(anew, stand, kind))
         return len(self.series) - 1
 
-    def add_note(self, series, calls):
+    def add_new_note(self, series, calls):
         """Add a note and give its number, or a refusal."""
         if series >= len(self.series) or len(calls) > MOST_CALLS:
             return -1
