@@ -7,7 +7,19 @@ MOST_NOTES = 30
 MOST_CALLS = 8
 MOST_ITEMS = 100
 
+# What an item is.
+PAGE_BEGINS = 0
+CHAPTER_BEGINS = 1
 NOTE_CALLED = 2
+
+# With what a series' numbers begin anew, if they do.
+ANEW_WITH_CHAPTER = 1
+ANEW_WITH_PAGE = 2
+
+# Where a series' notes stand.
+AT_FOOT = 0
+AT_CHAPTER_END = 1
+AT_BOOK_END = 2
 
 
 class Series:
@@ -71,6 +83,23 @@ class Book:
     def text_calls(self):
         """Give a new list of the notes that the text calls, in order."""
         return [what[1] for what in self.text if what[0] == NOTE_CALLED]
+
+    def last_page(self):
+        """Give the last page's number; the first page, 1, is ahead of all items."""
+        return 1 + len([what for what in self.text if what[0] == PAGE_BEGINS])
+
+    def last_chapter(self):
+        """Give the last chapter's number, or 0 where no chapter begins."""
+        return len([what for what in self.text if what[0] == CHAPTER_BEGINS])
+
+    def with_further_note(self, place, series):
+        """Give another book: this one, and a note more, called ahead of item place."""
+        other = Book()
+        other.series = list(self.series)
+        other.notes = self.notes + [Note(series, [])]
+        further = [NOTE_CALLED, len(self.notes)]
+        other.text = self.text[:place] + [further] + self.text[place:]
+        return other
 
 
 def may_be_note(number):

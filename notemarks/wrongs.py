@@ -59,3 +59,8 @@ def wrongs_of(book):
     for note in missing_notes(book, calls):
         found.append((NOT_THERE, note))
     return found
+
+
+def is_wrong(book):
+    """Tell whether anything is wrong with the book's notes."""
+    return len(wrongs_of(book)) > 0

@@ -6,6 +6,10 @@ NUMBERS = [0]
 LETTERS = [1]
 ROMAN = [2]
 
+NEVER, WITH_CHAPTER, WITH_PAGE = range(3)
+FOOT, CHAPTER_END, BOOK_END = range(3)
+HIGHEST = 4294967295
+
 PAGE = [0]
 CHAPTER = [1]
 
@@ -54,6 +58,34 @@ def wrongs():
     return [6]
 
 
+def numbers():
+    return [7]
+
+
+def foot(number):
+    return [8, number]
+
+
+def chapterend(number):
+    return [9, number]
+
+
+def bookend():
+    return [10]
+
+
+def alike():
+    return [11]
+
+
+def told_from(here, number):
+    return [12, here, number]
+
+
+def changes(place, number_of_series):
+    return [13, place, number_of_series]
+
+
 def flat(calls):
     return [number for one in calls for number in one]
 
@@ -82,6 +114,26 @@ def ask(*calls):
 
 def last(*calls):
     return ask(*calls)[-1]
+
+
+def listed(answer):
+    """Take what follows a count, of which there are to be as many."""
+    if len(answer) != 1 + answer[0]:
+        raise AssertionError("the count doesn't fit what it counts")
+    return answer[1:]
+
+
+def read_in(answer):
+    """Take an answer of numbers apart: note, chapter, page, number, mark of each."""
+    rows = []
+    at = 1
+    while at < len(answer):
+        size = answer[at + 4]
+        rows.append((*answer[at:at + 4], answer[at + 5:at + 5 + size]))
+        at += 5 + size
+    if at != len(answer) or len(rows) != answer[0]:
+        raise AssertionError("the counts don't fit what they count")
+    return rows
 
 
 def codes(text):

@@ -2,11 +2,10 @@
 
 import unittest
 
-from calling import (LETTERS, NUMBERS, ROMAN, ask, call, chapter, item, last, note,
+from calling import (HIGHEST, LETTERS, NUMBERS, ROMAN, ask, call, chapter, item, last, note,
                      page, series, signs, wrongs)
 from notemarks.book import answers
 
-HIGHEST = 4294967295
 UNFIT_SIGNS = [
     signs(),
     signs(1, 2, 3, 4, 5, 6, 7, 8, 9),

@@ -3,8 +3,8 @@
 import itertools
 import unittest
 
-from calling import LETTERS, NUMBERS, ROMAN, ask, codes, last, mark, read, signs
-from test_book import FIT_SIGNS, HIGHEST, UNFIT_SIGNS
+from calling import HIGHEST, LETTERS, NUMBERS, ROMAN, ask, codes, last, mark, read, signs
+from test_book import FIT_SIGNS, UNFIT_SIGNS
 
 EVERY_NUMBER = range(1, 1000)
 EIGHT = signs(42, 8224, 8225, 167, 182, 35, 43, 1)
